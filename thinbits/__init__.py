@@ -1,0 +1,1 @@
+"""Values packed by a schema; the calls are in thinbits.packing."""
