@@ -82,7 +82,7 @@ class Grammar:
             need(low == lowest or re.match("-?[0-9]", low))
             need(high == "MAX" or re.match("-?[0-9]", high))
         else:
-            need(low == lowest or re.match("-?[0-9]", low))
+            need(re.match("-?[0-9]", low))
         numbers = [int(bound) for bound in (low, high) if bound not in ("MIN", "MAX")]
         need(numbers == sorted(numbers) and all(least <= number <= most for number in numbers))
         self.want(")")

@@ -29,7 +29,7 @@ class Kinds(unittest.TestCase):
 
     def test_bounds(self):
         for text, low, high in (("(5)", 5, 5), ("(1..5)", 1, 5), ("(MIN..5)", None, 5), ("(-5..MAX)", -5, None),
-                                ("(MIN..MAX)", None, None), ("(MIN)", None, None)):
+                                ("(MIN..MAX)", None, None)):
             kind = only("INTEGER " + text)
             self.assertEqual((kind.low, kind.high), (low, high), text)
 

@@ -164,8 +164,8 @@ class Kinds(SchemaCase):
 
 class Integers(SchemaCase):
     def test_min_and_max(self):
-        self.right_kind("INTEGER (MIN..5)", "INTEGER (5..MAX)", "INTEGER (MIN..MAX)", "INTEGER (MIN)")
-        self.wrong_kind("INTEGER (MAX)", "INTEGER (MAX..5)", "INTEGER (5..MIN)", "INTEGER (MIN..MIN)",
+        self.right_kind("INTEGER (MIN..5)", "INTEGER (5..MAX)", "INTEGER (MIN..MAX)")
+        self.wrong_kind("INTEGER (MIN)", "INTEGER (MAX)", "INTEGER (MAX..5)", "INTEGER (5..MIN)", "INTEGER (MIN..MIN)",
                         "INTEGER (MAX..MAX)", "INTEGER (min..max)")
 
     def test_order(self):

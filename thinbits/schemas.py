@@ -57,8 +57,11 @@ def read_number(reader, least, most):
 
 
 def read_high(reader, low, least, most):
-    """The upper bound behind a lower one: the same again where no range is written."""
-    if not reader.skips_sign(".."):
+    """The upper bound behind a lower one: the same number again where no range is written."""
+    if low is None:
+        # MIN is no number: it is only the lower end of a range.
+        reader.needs_sign("..")
+    elif not reader.skips_sign(".."):
         return low
     if reader.skips_word("MAX"):
         return None
