@@ -26,6 +26,13 @@ class Kinds(unittest.TestCase):
     def test_named(self):
         kind = only("B B ::= NULL")
         self.assertEqual((kind.form, kind.target), ("a name", "B"))
+        self.assertEqual([part.form for part in kind.parts], ["NULL"])
+
+    def test_named_by_itself_and_from_ahead(self):
+        kinds = read("A ::= A B ::= SEQUENCE OF C C ::= B")
+        self.assertIs(kinds["A"].parts[0], kinds["A"])
+        self.assertIs(kinds["B"].parts[0].parts[0], kinds["C"])
+        self.assertIs(kinds["C"].parts[0], kinds["B"])
 
     def test_bounds(self):
         for text, low, high in (("(5)", 5, 5), ("(1..5)", 1, 5), ("(MIN..5)", None, 5), ("(-5..MAX)", -5, None),
@@ -50,7 +57,7 @@ class Kinds(unittest.TestCase):
         kind = only("SEQUENCE { a BOOLEAN, b NULL OPTIONAL, ..., c INTEGER, d SEQUENCE { e NULL } OPTIONAL }")
         self.assertEqual(kind.places, {"a": 0, "b": 1, "c": 2, "d": 3})
         self.assertEqual([part.form for part in kind.parts], ["BOOLEAN", "NULL", "INTEGER", "SEQUENCE"])
-        self.assertEqual(kind.optional, [False, True, False, True])
+        self.assertEqual(kind.needed, [0, 1, 1, 2, 2])
         self.assertEqual((kind.roots, kind.extensible, kind.waits), (2, True, False))
         self.assertEqual(kind.parts[3].places, {"e": 0})
 

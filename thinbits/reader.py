@@ -1,7 +1,7 @@
 """A walk along the tokens of a text."""
 
 from thinbits.errors import WrongText
-from thinbits.tokens import SIGN, WORD
+from thinbits.tokens import NUMBER, SIGN, WORD
 
 
 class Reader:
@@ -42,3 +42,9 @@ class Reader:
         held = self.tokens[self.place][1]
         self.place += 1
         return held
+
+    def takes_number(self, least, most):
+        number = self.takes(NUMBER)
+        if number < least or number > most:
+            raise WrongText("a number lies too far out")
+        return number

@@ -2,7 +2,7 @@
 
 from thinbits.errors import WrongText
 from thinbits.reader import Reader
-from thinbits.tokens import NUMBER, WORD, tokens_of
+from thinbits.tokens import WORD, tokens_of
 
 MOST_KINDS = 256
 LEAST_INTEGER = -9223372036854775808
@@ -22,11 +22,12 @@ SEQUENCE_OF = "SEQUENCE OF"
 class Kind:
     """What a value may be: one T of a schema.
 
-    form: its first word, but SEQUENCE_OF, and NAMED of one that only names another: that is target.
+    form: its first word, but SEQUENCE_OF, and NAMED of one that only names another, called target.
     low, high: bounds of the number or of the size, None where there is none.
     places: from each name within the brackets to its place, extensions behind the others.
     roots: how many of these are no extensions. extensible: whether there is a "...".
-    parts: the kinds within, in their order. optional: for each part of a SEQUENCE, whether it may be left out.
+    parts: the kinds within, in their order; of NAMED the one that it names.
+    needed: of a SEQUENCE, at each place and behind the last, how many parts before it are not OPTIONAL.
     waits: whether a kind within is still to be read.
     """
 
@@ -39,7 +40,7 @@ class Kind:
         self.roots = 0
         self.extensible = False
         self.parts = []
-        self.optional = []
+        self.needed = [0]
         self.waits = False
 
 
@@ -47,13 +48,6 @@ def checked_kind_name(word):
     if not word[0].isupper() or word in OWN_WORDS:
         raise WrongText("no kind may be called so")
     return word
-
-
-def read_number(reader, least, most):
-    number = reader.takes(NUMBER)
-    if number < least or number > most:
-        raise WrongText("a bound lies too far out")
-    return number
 
 
 def read_high(reader, low, least, most):
@@ -65,7 +59,7 @@ def read_high(reader, low, least, most):
         return low
     if reader.skips_word("MAX"):
         return None
-    high = read_number(reader, least, most)
+    high = reader.takes_number(least, most)
     if low is not None and high < low:
         raise WrongText("the lower bound is above the upper one")
     return high
@@ -75,7 +69,7 @@ def read_integer(reader):
     kind = Kind("INTEGER")
     if reader.skips_sign("("):
         if not reader.skips_word("MIN"):
-            kind.low = read_number(reader, LEAST_INTEGER, MOST_INTEGER)
+            kind.low = reader.takes_number(LEAST_INTEGER, MOST_INTEGER)
         kind.high = read_high(reader, kind.low, LEAST_INTEGER, MOST_INTEGER)
         reader.needs_sign(")")
     return kind
@@ -86,7 +80,7 @@ def read_size(reader, kind):
     if reader.skips_sign("("):
         reader.needs_word("SIZE")
         reader.needs_sign("(")
-        kind.low = read_number(reader, 0, MOST_SIZE)
+        kind.low = reader.takes_number(0, MOST_SIZE)
         kind.high = read_high(reader, kind.low, 0, MOST_SIZE)
         reader.needs_sign(")")
         reader.needs_sign(")")
@@ -167,7 +161,7 @@ def begin_sequence(reader):
 def named_kind(word, named):
     kind = Kind(NAMED)
     kind.target = checked_kind_name(word)
-    named[word] = True
+    named.append(kind)
     return kind
 
 
@@ -196,12 +190,13 @@ def take_inner(reader, outer, inner):
         outer.waits = False
         return
     if outer.form == "SEQUENCE":
-        outer.optional.append(reader.skips_word("OPTIONAL"))
+        needed = 0 if reader.skips_word("OPTIONAL") else 1
+        outer.needed.append(outer.needed[-1] + needed)
     outer.waits = next_name(reader, outer)
 
 
 def read_kind(reader, named):
-    """Reads a kind, whatever stands within it; what it names goes into named."""
+    """Reads a kind, whatever stands within it; each one that only names another goes into named."""
     # Kinds may stand within each other deeper than calls may, so those around are kept in a list.
     around = []
     kind = begin_kind(reader, named)
@@ -216,10 +211,18 @@ def read_kind(reader, named):
     return kind
 
 
+def join_named(kinds, named):
+    """Gives each kind that only names another that one."""
+    for kind in named:
+        if kind.target not in kinds:
+            raise WrongText("a kind is named that is not there")
+        kind.parts.append(kinds[kind.target])
+
+
 def read_schema(text):
     """The kinds that a schema's text defines, by their names; WrongText if it is no schema."""
     reader = Reader(tokens_of(text))
-    named = {}
+    named = []
     kinds = {}
     while not reader.ended():
         name = checked_kind_name(reader.takes(WORD))
@@ -229,7 +232,5 @@ def read_schema(text):
         kinds[name] = read_kind(reader, named)
     if len(kinds) < 1 or len(kinds) > MOST_KINDS:
         raise WrongText("there are no kinds, or too many")
-    for name in named:
-        if name not in kinds:
-            raise WrongText("a kind is named that is not there")
+    join_named(kinds, named)
     return kinds

@@ -41,6 +41,10 @@ def letter_of(code):
     return LETTERS[code] if code < len(LETTERS) else "?"
 
 
+def text_of(codes):
+    return "".join([letter_of(code) for code in codes])
+
+
 def remark_end(text, start):
     end = text.find("\n", start)
     return len(text) if end < 0 else end + 1
@@ -138,7 +142,7 @@ def token_of(piece):
 
 def tokens_of(codes):
     """The tokens of a text, in their order; WrongText if something else stands in it."""
-    text = "".join([letter_of(code) for code in codes])
+    text = text_of(codes)
     tokens = []
     place = skip_blanks(text, 0)
     while place < len(text):
