@@ -1,8 +1,8 @@
-"""What pack makes of the values of each kind, with bits written by hand; and the values it refuses."""
+"""What pack makes of the values of each kind, with bits written by hand; and the values that pack and tell refuse."""
 
 import unittest
 
-from packcase import PackCase, packed
+from packcase import PackCase
 
 LEAST = -2 ** 63
 MOST = 2 ** 63 - 1
@@ -440,12 +440,12 @@ class ByName(PackCase):
     def test_only_itself(self):
         for schema in ("A ::= A", "A ::= B B ::= A", "A ::= B B ::= C C ::= B"):
             for value in ("", "NULL", "A", "{ }", "0"):
-                self.assertEqual(packed(schema, "A", value), [-4])
+                self.refused(-4, schema, "A", value)
 
     def test_never_ends(self):
         for schema in ("A ::= SEQUENCE { a A }", "A ::= CHOICE { a A }"):
             for value in ("{ }", "{ a { } }", "a: a: a", "a", "{ a NULL }", "a: NULL"):
-                self.assertEqual(packed(schema, "A", value), [-4])
+                self.refused(-4, schema, "A", value)
 
 
 if __name__ == "__main__":

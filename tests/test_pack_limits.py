@@ -1,10 +1,10 @@
-"""The refusals of pack and their order, how deep values go, how long texts and answers are."""
+"""The refusals of pack and their order, how deep values go (for tell too), how long texts and answers are."""
 
 import sys
 import time
 import unittest
 
-from packcase import MOST, PackCase, bytes_of, codes, packed
+from packcase import MOST, PackCase, answer_of, bytes_of, codes, packed, told
 from thinbits.packing import pack, schema
 
 
@@ -20,7 +20,7 @@ class KindNames(PackCase):
         for name in ("B", "a", "Ab", "Ab-", "Ab-90", "AA", "", " A", "A ", "\tA", "A\n", "A A", "A--", "A -- x", "(A)", "'A'",
                      "BOOLEAN", "NULL", "TRUE", "INTEGER", "L" * 63, "L" * 65, "L" * 65536, "\x00", "A\x00", "?", "A?", "A,",
                      "\x80", "A\x80", "\xc1", "\xff", "A\xff", "1", "A ::= BOOLEAN"):
-            self.assertEqual(packed(self.SCHEMA, name, "TRUE"), [-3], name)
+            self.refused(-3, self.SCHEMA, name, "TRUE")
 
     def test_a_letter_is_no_other_byte(self):
         for code in range(256):
@@ -105,12 +105,13 @@ def chain(count):
 
 class Depth(PackCase):
     def both(self, make):
-        """make(count) gives schema, name and value, so deep: 64 is taken, 65 is not."""
+        """make(count) gives schema, name and the value as it is told, so deep: 64 is taken, 65 is not."""
         for count in (1, 2, 63, 64):
             answer = packed(*make(count))
             self.assertGreaterEqual(answer[0], 1, count)
+            self.assertEqual(told(*make(count)), answer_of(make(count)[2]))
         for count in (65, 66, 100, 200):
-            self.assertEqual(packed(*make(count)), [-4], count)
+            self.refused(-4, *make(count))
 
     def test_kinds_by_name(self):
         self.both(lambda count: (chain(count), "T0", "TRUE"))
@@ -120,6 +121,7 @@ class Depth(PackCase):
         text = chain(70)
         for place in range(71):
             self.assertEqual(packed(text, f"T{place}", "TRUE"), [1, 128] if place >= 6 else [-4])
+            self.assertEqual(told(text, f"T{place}", "TRUE"), answer_of("TRUE") if place >= 6 else [-4])
 
     def test_choices(self):
         def make(count):
@@ -131,7 +133,8 @@ class Depth(PackCase):
         def make(count):
             return "A ::= CHOICE { a A, b NULL }", "A", "a: " * count + "b: NULL"
         self.assertEqual(packed(*make(31)), [4, 0, 0, 0, 1])
-        self.assertEqual(packed(*make(32)), [-4])
+        self.assertEqual(told(*make(31)), answer_of("a: " * 31 + "b: NULL"))
+        self.refused(-4, *make(32))
 
     def test_sequences(self):
         def make(count):
@@ -151,7 +154,7 @@ class Depth(PackCase):
                 "A ::= " + "CHOICE { a " * count + inner + " }" * count, "A", "a: " * count + "{ }"))
         text = "A ::= " + "SEQUENCE OF " * 65 + "NULL"
         self.assertEqual(packed(text, "A", "{ " * 64 + "{ }" + " }" * 64), [65] + [1] * 64 + [0])
-        self.assertEqual(packed(text, "A", "{ " * 65 + " NULL" + " }" * 65), [-4])
+        self.refused(-4, text, "A", "{ " * 65 + " NULL" + " }" * 65)
 
     def test_mixed(self):
         # In each round a name, a choice, two sorts of brackets and a name again; twelve of them are 60 deep.
@@ -162,36 +165,41 @@ class Depth(PackCase):
         around = "00000001 100" * 12
         for inner, bits in (("{ }", "00000000"), ("{ a: { } }", "00000001 000"), ("{ a: { c NULL } }", "00000001 010")):
             self.bits(text, make(inner)[2], around + bits)
+            self.tells(text, make(inner)[2], make(inner)[2])
         # { is 61, B 62, the choice 63, { 64, D 65.
-        self.assertEqual(packed(*make("{ a: { d NULL } }")), [-4])
-        self.assertEqual(packed(*make("{ a: { b { } } }")), [-4])
+        self.refused(-4, *make("{ a: { d NULL } }"))
+        self.refused(-4, *make("{ a: { b { } } }"))
 
     def test_one_too_deep_among_others(self):
         text = "A ::= SEQUENCE OF CHOICE { a NULL, b " + "SEQUENCE OF " * 63 + "NULL }"
         self.bits(text, "{ a: NULL, b: " + "{ " * 62 + "{ }" + " }" * 62 + " }",
                   "00000010 0 1" + "00000001" * 62 + "00000000")
-        self.assertEqual(packed(text, "A", "{ a: NULL, b: " + "{ " * 63 + "NULL" + " }" * 63 + " }"), [-4])
-        self.assertEqual(packed(text, "A", "{ b: " + "{ " * 63 + "NULL" + " }" * 63 + ", a: NULL }"), [-4])
+        self.refused(-4, text, "A", "{ a: NULL, b: " + "{ " * 63 + "NULL" + " }" * 63 + " }")
+        self.refused(-4, text, "A", "{ b: " + "{ " * 63 + "NULL" + " }" * 63 + ", a: NULL }")
 
     def test_far_too_deep(self):
         text = "A ::= SEQUENCE OF A"
-        self.assertEqual(packed(text, "A", "{" * 32768 + "}" * 32768), [-4])
-        self.assertEqual(packed(text, "A", "{" * 65536), [-4])
-        self.assertEqual(packed("A ::= CHOICE { a A }", "A", "a:" * 32768), [-4])
+        self.refused(-4, text, "A", "{" * 32768 + "}" * 32768)
+        self.refused(-4, text, "A", "{" * 65536)
+        self.refused(-4, "A ::= CHOICE { a A }", "A", "a:" * 32768)
         text = "A ::= " + "SEQUENCE OF " * 5460 + "NULL"
         self.assertEqual(packed(text, "A", "{ }"), [1, 0])
-        self.assertEqual(packed(text, "A", "{" * 5460 + "}" * 5460), [-4])
+        self.refused(-4, text, "A", "{" * 5460 + "}" * 5460)
 
     def test_with_few_calls_left(self):
         # Some hundred calls are enough for the deepest value.
         text = "A ::= " + "CHOICE { a NULL, ..., b " * 64 + "SEQUENCE { }" + " }" * 64
+        value = "b: " * 64 + "{ }"
+        sequences = "A ::= " + "SEQUENCE { a " * 64 + "NULL" + " }" * 64
+        inner_value = "{ a " * 64 + "NULL" + " }" * 64
         limit = sys.getrecursionlimit()
         sys.setrecursionlimit(400)
         try:
-            answer = packed(text, "A", "b: " * 64 + "{ }")
+            answers = packed(text, "A", value), told(text, "A", value), told(sequences, "A", inner_value)
         finally:
             sys.setrecursionlimit(limit)
-        self.assertEqual(answer[0], 64 * 2 + 1)
+        self.assertEqual(answers[0][0], 64 * 2 + 1)
+        self.assertEqual(answers[1:], (answer_of(value), answer_of(inner_value)))
 
 
 class Long(PackCase):

@@ -1,10 +1,13 @@
-"""Random schemas and values: the bytes that pack makes lead back to the value, by a second program in tests alone."""
+"""Random schemas and values: the bytes that pack makes lead back to the value, by a second program in tests alone.
+
+What tell tells is the text that they lead back to.
+"""
 
 import random
 import re
 import unittest
 
-from packcase import packed
+from packcase import MOST, PackCase, answer_of, packed, told
 from unpacking import unpacked
 
 LEAST, GREATEST = -2 ** 63, 2 ** 63 - 1
@@ -256,7 +259,7 @@ def changed_tokens(dice, tokens):
     return changed
 
 
-class RandomValues(unittest.TestCase):
+class RandomValues(PackCase):
     def test_there_and_back(self):
         done = 0
         for seed in range(500):
@@ -273,7 +276,12 @@ class RandomValues(unittest.TestCase):
                 answer = packed(schema, name, text)
                 self.assertEqual(answer[0], len(answer) - 1, (seed, schema, name, text))
                 self.assertEqual(unpacked(maker.kinds, name, answer[1:]), text, (seed, schema, name))
-                self.assertEqual(packed(schema, name, spread(maker.dice, text)), answer, (seed, schema, name, text))
+                spread_text = spread(maker.dice, text)
+                self.assertEqual(packed(schema, name, spread_text), answer, (seed, schema, name, text))
+                for value in (text, spread_text):
+                    self.same(told(schema, name, value), answer_of(text), schema, name, value)
+                self.same(told(schema, name, spread_text, len(text)), answer_of(text), schema, name, text)
+                self.same(told(schema, name, spread_text, len(text) - 1), [-5], schema, name, text)
                 done += 1
         self.assertGreater(done, 700)
 
@@ -297,10 +305,13 @@ class RandomValues(unittest.TestCase):
                 if fit.fits(maker.kinds["A"], changed):
                     taken += 1
                     self.assertGreater(answer[0], 0, (seed, schema, changed))
-                    self.assertEqual(tokens_of(unpacked(maker.kinds, "A", answer[1:])), changed, (seed, schema))
+                    back = unpacked(maker.kinds, "A", answer[1:])
+                    self.assertEqual(tokens_of(back), changed, (seed, schema))
+                    self.same(told(schema, "A", " ".join(changed)), answer_of(back), schema, back)
                 else:
                     refused += 1
                     self.assertEqual(answer, [-4], (seed, schema, changed))
+                    self.assertEqual(told(schema, "A", " ".join(changed), MOST + 1), [-4], (seed, schema, changed))
         self.assertGreater(taken, 500)
         self.assertGreater(refused, 2000)
 

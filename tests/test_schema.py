@@ -1,7 +1,11 @@
-"""Promise 1: schema answers how many kinds a schema has, or -2; -1 of a text that is too long."""
+"""Promise 1: schema answers how many kinds a schema has, or -2; -1 of a text that is too long.
+
+What is no schema is none to pack and tell either.
+"""
 
 import unittest
 
+from packcase import PackCase
 from thinbits.packing import schema
 
 OWN_WORDS = ("BOOLEAN NULL INTEGER MIN MAX ENUMERATED BIT STRING OCTET SIZE SEQUENCE OPTIONAL OF CHOICE "
@@ -12,7 +16,7 @@ def asked(text):
     return schema(list(text.encode("latin-1")))
 
 
-class SchemaCase(unittest.TestCase):
+class SchemaCase(PackCase):
     def right(self, *texts, count=1):
         for text in texts:
             self.assertEqual(asked(text), [count], text[:200])
@@ -20,6 +24,7 @@ class SchemaCase(unittest.TestCase):
     def wrong(self, *texts):
         for text in texts:
             self.assertEqual(asked(text), [-2], text[:200])
+            self.refused(-3, text, "A", "NULL")
 
     def right_kind(self, *kinds):
         """Each stands by itself, as a part, as a choice, within a SEQUENCE OF, and ahead of another one."""

@@ -5,5 +5,13 @@ class WrongText(ValueError):
     """A text is not what it should be; which refusal that is, the call knows."""
 
 
+class NoKind(ValueError):
+    """There is no schema, or no such kind in it."""
+
+
+class NoValue(ValueError):
+    """There is no value of the kind that is asked for."""
+
+
 class TooLong(ValueError):
     """There is more to answer than may be."""

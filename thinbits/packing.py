@@ -1,7 +1,8 @@
 """The calls. Each takes and gives lists of whole numbers; a number below 0 is a refusal."""
 
-from thinbits.errors import TooLong, WrongText
+from thinbits.errors import NoKind, NoValue, TooLong, WrongText
 from thinbits.schemas import read_schema
+from thinbits.telling import told_bytes
 from thinbits.tokens import text_of
 from thinbits.values import read_value_text
 from thinbits.writing import packed_bytes
@@ -27,12 +28,22 @@ def schema(text):
     return [len(kinds)]
 
 
-def read_kind_called(schema_text, type_name):
-    kinds = read_schema(schema_text)
+def kind_called(schema_text, type_name):
+    try:
+        kinds = read_schema(schema_text)
+    except WrongText:
+        raise NoKind("the text is no schema") from None
     name = text_of(type_name)
     if name not in kinds:
-        raise WrongText("there is no such kind")
+        raise NoKind("there is no such kind")
     return kinds[name]
+
+
+def value_of(kind, value_text):
+    try:
+        return read_value_text(value_text, kind)
+    except WrongText:
+        raise NoValue("the text is no value of this kind") from None
 
 
 def pack(most, schema_text, type_name, value_text):
@@ -40,15 +51,31 @@ def pack(most, schema_text, type_name, value_text):
     if most > MOST_ANSWERED:
         return [TOO_MUCH]
     try:
-        kind = read_kind_called(schema_text, type_name)
-    except WrongText:
-        return [NO_KIND]
-    try:
-        value = read_value_text(value_text, kind)
-    except WrongText:
-        return [NO_VALUE]
-    try:
+        kind = kind_called(schema_text, type_name)
+        value = value_of(kind, value_text)
         packed = packed_bytes(kind, value, most)
+    except NoKind:
+        return [NO_KIND]
+    except NoValue:
+        return [NO_VALUE]
     except TooLong:
         return [TOO_LONG]
     return [len(packed)] + packed
+
+
+def tell(most, schema_text, type_name, value_text):
+    """How many bytes the value's text has as it is told, then these."""
+    try:
+        kind = kind_called(schema_text, type_name)
+        value = value_of(kind, value_text)
+    except NoKind:
+        return [NO_KIND]
+    except NoValue:
+        return [NO_VALUE]
+    # Unlike in pack, what is wrong with the texts goes ahead of this.
+    if most > MOST_ANSWERED:
+        return [TOO_MUCH]
+    told = told_bytes(kind, value)
+    if len(told) > most:
+        return [TOO_LONG]
+    return [len(told)] + told
